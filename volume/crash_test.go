@@ -234,7 +234,8 @@ func (l *life) revives(before, after *shadow) {
 
 // opens opens it by a keyslot whose passphrase is the same ahead of the call and behind it, or by the master key.
 func (l *life) opens(before, after *shadow) (*volume.Volume, int, api.Errno) {
-	for n, x := range before.slots {
+	for _, n := range slices.Sorted(maps.Keys(before.slots)) {
+		x := before.slots[n]
 		if after.slots[n].pass == x.pass && after.slots[n].area == x.area && l.r.Intn(2) == 0 {
 			v, e := volume.Open(l.bench, []byte(x.pass), n, 1+l.r.Intn(16))
 			return v, n, e

@@ -354,8 +354,11 @@ func anyAct(r *rand.Rand, s *shadow) act {
 	case pick < 27:
 		a.kind = []string{"Note", "Unnote"}[pick%2]
 		a.token = api.Token{Number: r.Intn(4), Kind: "kind", Note: fmt.Sprint(r.Intn(1000))}
-		a.token.Slots = slices.Collect(maps.Keys(s.slots))[:r.Intn(len(s.slots)+1)]
-		slices.Sort(a.token.Slots)
+		for _, n := range slices.Sorted(maps.Keys(s.slots)) {
+			if r.Intn(2) == 0 {
+				a.token.Slots = append(a.token.Slots, n)
+			}
+		}
 	case pick < 31:
 		a.kind = "RotateStart"
 		a.turn = api.Turn{Cipher: []string{"null", "aes128-ecb", "aes128-xts-plain64", "aes128-cbc-essiv:sha256"}[r.Intn(4)], Mode: 1 + r.Intn(2), Back: r.Intn(2) == 0, Hot: []uint64{1, 3, 4, 8, 11, 30, 0}[r.Intn(7)]}
@@ -365,9 +368,13 @@ func anyAct(r *rand.Rand, s *shadow) act {
 	if a.kind == "AddSlot" && r.Intn(3) > 0 || a.kind == "Resume" && r.Intn(2) == 0 {
 		a.slot = -1
 	}
+	all := slices.Sorted(maps.Keys(s.slots))
+	some := all[r.Intn(len(all))]
 	if (a.kind == "ChangeSlot" || a.kind == "KillSlot" || a.kind == "PreferSlot") && r.Intn(4) > 0 {
-		all := slices.Sorted(maps.Keys(s.slots))
-		a.slot = all[r.Intn(len(all))]
+		a.slot = some
+	}
+	if a.kind == "Resume" && r.Intn(2) == 0 {
+		a.slot, a.pass = some, s.slots[some].pass
 	}
 	return a
 }
